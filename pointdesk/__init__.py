@@ -1,0 +1,1 @@
+"""An umpire's desk: a match of rallies, kept point by point."""
