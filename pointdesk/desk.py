@@ -1,5 +1,6 @@
 """The desk: the calls on it, and the lists of numbers in which they are handed in and answered."""
 
+from pointdesk.reading import ends_changed, points_needed, score_text, server
 from pointdesk.score import Rules, after_point, first_score, match_over
 from pointdesk.telling import told_score
 
@@ -7,9 +8,13 @@ BEGIN = 0
 TOLD = 1
 POINT = 2
 BACK = 3
+RIGHT = 4
+SCORE = 5
+NEXT = 6
+NEED = 7
 
 # How many numbers a call has, its own number among them; told tells by itself how many it has.
-CALL_LENGTHS = {0: 5, 2: 2, 3: 1, 4: 2}
+CALL_LENGTHS = {0: 5, 2: 2, 3: 1, 4: 2, 5: 1, 6: 1, 7: 2, 8: 1}
 
 NO_SUCH_POINT = -2
 TOO_MANY_POINTS = -12
@@ -25,10 +30,13 @@ MOST_GAMES = 8
 MOST_POINTS = 1000
 MOST_SETS_TOLD = 5
 MOST_TOLD = 60
+CHANGED_ENDS = 2
 
 
 class Desk:
-    """The desk of one match; each call answers a number, a refusal one below 0 that leaves all as it was.
+    """The desk of one match; a refusal is answered by a number below 0 and leaves all as it was.
+
+    All but begin, back and right are asked only where there are rules: answer_to sees to that.
 
     winners tells of each point who won it. scores has one score more: the one told at first, then the one behind
     each point, so that a point is taken back without playing all others again.
@@ -51,8 +59,6 @@ class Desk:
         self.scores = [score]
 
     def told(self, done, now):
-        if self.rules is None:
-            return NO_RULES
         if len(done) > 3 * MOST_SETS_TOLD or max(done + now) > MOST_TOLD:
             return TOLD_TOO_MUCH
         score = told_score(self.rules, done, now)
@@ -62,8 +68,6 @@ class Desk:
         return 0
 
     def point(self, who):
-        if self.rules is None:
-            return NO_RULES
         if who > 1:
             return OUT_OF_RANGE
         if match_over(self.rules, self.scores[-1]):
@@ -95,6 +99,28 @@ class Desk:
         self.scores = scores
         return 0
 
+    def score(self):
+        """How many bytes the score's text has, then these."""
+        text = score_text(self.rules, self.scores[-1])
+        return [len(text)] + [ord(sign) for sign in text]
+
+    def serving(self):
+        score = self.scores[-1]
+        if match_over(self.rules, score):
+            return MATCH_IS_OVER
+        return server(self.rules, score) + (CHANGED_ENDS if ends_changed(self.rules, score) else 0)
+
+    def need(self, who):
+        if who > 1:
+            return OUT_OF_RANGE
+        if match_over(self.rules, self.scores[-1]):
+            return MATCH_IS_OVER
+        return points_needed(self.rules, self.scores[-1], who)
+
+    def counts(self):
+        """How many points there are, how many of them the first player won, then the sets of both."""
+        return [len(self.winners), self.winners.count(0)] + list(self.scores[-1].won)
+
 
 def call_length(calls, place):
     """How many numbers the call that begins at place has."""
@@ -106,6 +132,8 @@ def call_length(calls, place):
 
 def answer_to(desk, call):
     """The numbers that the desk answers to one call, which is written as numbers."""
+    if desk.rules is None and call[0] not in (BEGIN, BACK, RIGHT):
+        return [NO_RULES]
     if call[0] == BEGIN:
         return [desk.begin(call[1], call[2], call[3], call[4])]
     if call[0] == TOLD:
@@ -115,8 +143,16 @@ def answer_to(desk, call):
         return [desk.point(call[1])]
     if call[0] == BACK:
         return [desk.back()]
-    # No call with another number gets here: call_length knows none.
-    return [desk.right(call[1])]
+    if call[0] == RIGHT:
+        return [desk.right(call[1])]
+    if call[0] == SCORE:
+        return desk.score()
+    if call[0] == NEXT:
+        return [desk.serving()]
+    if call[0] == NEED:
+        return [desk.need(call[1])]
+    # It is count: call_length knows no other number.
+    return desk.counts()
 
 
 def answers(calls):

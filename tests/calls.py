@@ -37,6 +37,23 @@ def right(k):
     return [4, k]
 
 
+def score():
+    return [5]
+
+
+def serving():
+    """The call next, under a name that Python has not given away."""
+    return [6]
+
+
+def need(who):
+    return [7, who]
+
+
+def count():
+    return [8]
+
+
 def answered(*calls):
     """The answer to each call on one new desk; a list of calls stands for the calls in it."""
     line = []
@@ -47,15 +64,36 @@ def answered(*calls):
 
 
 def read(given):
-    """The answers, which are one number each."""
+    """The answers: a number where one is answered, else a tuple of all of them."""
     found = []
     place = 0
     while place < len(given):
-        if given[place] != 1:
-            raise AssertionError(f"{given[place]} numbers where 1 is asked")
-        found.append(given[place + 1])
-        place += 2
+        size = given[place]
+        numbers = tuple(given[place + 1:place + 1 + size])
+        if size < 1 or len(numbers) != size:
+            raise AssertionError(f"{size} numbers told, {len(numbers)} there")
+        found.append(numbers[0] if size == 1 else numbers)
+        place += 1 + size
     return found
+
+
+def written(answer):
+    """The text in the answer to score."""
+    if answer[0] != len(answer) - 1:
+        raise AssertionError(f"{answer[0]} bytes told, {len(answer) - 1} there")
+    return bytes(answer[1:]).decode("ascii")
+
+
+def text_behind(*calls):
+    return written(answered(*calls, score())[-1])
+
+
+def difference(given, wanted):
+    """None if both lists are the same, else where they part; unittest's own comparison of long lists takes minutes."""
+    for place, (one, other) in enumerate(zip(given, wanted)):
+        if one != other:
+            return (place, one, other)
+    return None if len(given) == len(wanted) else (len(given), len(wanted))
 
 
 STARTS = ("", "0", "1", "01", "10", "0101", "1010", "010101", "101010")

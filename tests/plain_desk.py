@@ -37,6 +37,60 @@ def mirrored(score):
     return (sets, score[2], score[1], score[4], score[3])
 
 
+def is_tie_break(rules, score):
+    deciding = set_count(score, 0) == set_count(score, 1) == rules[0] - 1
+    return score[1] == score[2] == rules[1] and not (deciding and rules[2])
+
+
+def text(rules, score):
+    written = ""
+    for first, other, loser in score[0]:
+        written += str(first) + "-" + str(other)
+        if sorted((first, other)) == [rules[1], rules[1] + 1]:
+            written += "(" + str(loser) + ")"
+        written += " "
+    if is_over(rules, score):
+        return written[:-1]
+    names = {0: "0", 1: "15", 2: "30", 3: "40", 4: "A"}
+    if is_tie_break(rules, score):
+        names = {number: str(number) for number in range(2000)}
+    return written + str(score[1]) + "-" + str(score[2]) + " " + names[score[3]] + "-" + names[score[4]]
+
+
+class Court:
+    """Who serves and whether ends have been changed, turned by what happens, one game or point behind another."""
+
+    def __init__(self):
+        self.server = 0
+        self.ends = 0
+
+    def play_games(self, first, last):
+        for game in range(first, last + 1):
+            self.server = 1 - self.server
+            if game % 2 == 1:
+                self.ends = 1 - self.ends
+
+    def change_ends_in_tie_break(self, points):
+        for played in range(1, points + 1):
+            if played % 6 == 0:
+                self.ends = 1 - self.ends
+
+
+def serving(rules, score):
+    court = Court()
+    for first, other, loser in score[0]:
+        if sorted((first, other)) == [rules[1], rules[1] + 1]:
+            court.change_ends_in_tie_break(loser + max(7, loser + 2) - 1)
+        court.play_games(1, first + other)
+    court.play_games(1, score[1] + score[2])
+    server = court.server
+    if is_tie_break(rules, score):
+        court.change_ends_in_tie_break(score[3] + score[4])
+        turns = [server] + [1 - server, 1 - server, server, server] * 500
+        server = turns[score[3] + score[4]]
+    return server + 2 * court.ends
+
+
 START = ((), 0, 0, 0, 0)
 
 
@@ -83,6 +137,8 @@ class PlainDesk:
         """can_be: whether the score is one that points lead to, which the test knows."""
         if self.rules is None:
             return -61
+        if len(score[0]) > 5 or max(max(part) for part in (*score[0], score[1:])) > 60:
+            return -71
         if not can_be:
             return -33
         self.start, self.won = score, []
@@ -115,3 +171,34 @@ class PlainDesk:
             return -33
         self.won = won
         return 0
+
+    def score(self):
+        if self.rules is None:
+            return -61
+        written = text(self.rules, self.played(self.won))
+        return (len(written), *written.encode("ascii"))
+
+    def serving(self):
+        if self.rules is None:
+            return -61
+        score = self.played(self.won)
+        return -17 if is_over(self.rules, score) else serving(self.rules, score)
+
+    def need(self, who):
+        if self.rules is None:
+            return -61
+        if who > 1:
+            return -22
+        score = self.played(self.won)
+        needed = 0
+        while not is_over(self.rules, score):
+            score = step(self.rules, score, who)
+            needed += 1
+        return needed or -17
+
+    def count(self):
+        if self.rules is None:
+            return -61
+        score = self.played(self.won)
+        first = sum(1 for who in self.won if who == 0)
+        return (len(self.won), first, set_count(score, 0), set_count(score, 1))

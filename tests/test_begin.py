@@ -2,7 +2,9 @@
 
 import unittest
 
-from calls import LARGEST, answered, back, begin, games, point, points, right, standing, told
+from calls import (
+    LARGEST, answered, back, begin, count, games, need, point, points, right, score, serving, standing, told,
+)
 
 
 class Edges(unittest.TestCase):
@@ -69,8 +71,17 @@ class NoRules(unittest.TestCase):
         self.assertEqual(answered(told([])), [-61])
         self.assertEqual(answered(point(0), point(1)), [-61, -61])
 
+    def test_score_next_need_and_count(self):
+        questions = [score(), serving(), need(0), need(1), count()]
+        self.assertEqual(answered(questions), [-61] * 5)
+        self.assertEqual(answered(back(), right(0), begin(0, 6), begin(3, 9), questions)[4:], [-61] * 5)
+        given = answered(begin(1, 2), questions, begin(0, 6), questions)
+        self.assertEqual(given[1:6], [(7, *b"0-0 0-0"), 0, 8, 8, (0, 0, 0, 0)])
+        self.assertEqual(given[7:], given[1:6])
+
     def test_ahead_of_other_refusals(self):
         self.assertEqual(answered(point(2), point(LARGEST)), [-61, -61])
+        self.assertEqual(answered(need(2), need(LARGEST)), [-61, -61])
         self.assertEqual(answered(told([(1, 1, 1)]), told([(61, 0, 0)]), told([(6, 0, 0)] * 6)), [-61] * 3)
 
     def test_back_and_right(self):

@@ -2,7 +2,7 @@
 
 import unittest
 
-from calls import LARGEST, answered, back, begin, games, point, points, standing, told
+from calls import LARGEST, answered, back, begin, difference, games, point, points, standing, told
 
 
 def other(text):
@@ -46,16 +46,16 @@ class Refusals(Playing):
 
     def test_a_thousand_points(self):
         given = answered(begin(), points("01" * 500), point(0), point(1), point(2), back(), point(1), point(0))
-        self.assertEqual(given, [0] * 1001 + [-12, -12, -22, 999, 0, -12])
+        self.assertIsNone(difference(given, [0] * 1001 + [-12, -12, -22, 999, 0, -12]))
 
     def test_a_thousand_points_since_the_last_score_told(self):
         given = answered(begin(), points("01" * 500), told([]), points("01" * 500), point(0), begin(), point(0))
-        self.assertEqual(given, [0] * 2002 + [-12, 0, 0])
+        self.assertIsNone(difference(given, [0] * 2002 + [-12, 0, 0]))
 
     def test_the_thousandth_ends_the_match(self):
         text = "01" * 499 + "00"
         given = answered(begin(1, 2), told([], (1, 0, 0, 0)), points(text), point(0), point(2), back(), point(1))
-        self.assertEqual(given, [0] * 1001 + [1, -17, -22, 999, 0])
+        self.assertIsNone(difference(given, [0] * 1001 + [1, -17, -22, 999, 0]))
 
     def test_refused_changes_nothing(self):
         before = [begin(2, 3, 0, 1), told([(3, 1, 0)], (1, 2, 0, 3))] + points("001")
@@ -149,7 +149,8 @@ class DecidingSet(Playing):
 
     def test_that_goes_on_for_a_thousand_points(self):
         text = "00001111" * 125
-        self.assertEqual(answered(begin(1, 2, 1, 0), points(text), point(0)), [0] * 1001 + [-12])
+        given = answered(begin(1, 2, 1, 0), points(text), point(0))
+        self.assertIsNone(difference(given, [0] * 1001 + [-12]))
 
     def test_sets_ahead_of_it_have_a_tie_break(self):
         self.assert_leads_to((2, 6, 1, 0), ([(6, 0, 0)], (6, 6, 0, 6)), "1", [(6, 0, 0), (6, 7, 0)], (0, 0, 0, 0))

@@ -3,7 +3,7 @@
 import itertools
 import unittest
 
-from calls import LARGEST, answered, back, begin, games, points, right, standing, told
+from calls import LARGEST, answered, back, begin, difference, games, points, right, standing, told
 from plain_desk import is_over, reachable
 
 
@@ -225,7 +225,7 @@ class AgainstAllThatPointsLeadTo(Told):
 
     def hold(self, rules, found, tried):
         wanted = [0 if score in found else -33 for score in tried]
-        self.assertEqual(self.tell(rules, tried), wanted)
+        self.assertIsNone(difference(self.tell(rules, tried), wanted))
         self.assertIn(0, wanted)
         self.assertTrue(any(is_over(rules, score) for score in tried if score in found))
 
